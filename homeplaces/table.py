@@ -4,6 +4,10 @@ INIT = 1
 MIX = 2
 PUT = 3
 GET = 4
+TAKE = 5
+PLACE = 6
+WALK = 7
+MOVE = 8
 
 MOST_SLOTS = 128
 MOST_BYTES = 255
@@ -47,6 +51,39 @@ def mix_of(seed, key):
     return fold(rotated_left(h, 23) ^ K1, K4)
 
 
+def home_of(mix, slots):
+    return (mix * slots) >> 64
+
+
+def in_laying_order(keys, seed, slots):
+    # Rows compare by home, then mix, then bytes; of two tuples a beginning is the lesser one.
+    rows = []
+    for key in keys:
+        mix = mix_of(seed, key)
+        rows.append((home_of(mix, slots), mix, key))
+    return sorted(rows)
+
+
+def next_free(places, home):
+    # There are never more keys than places, so a free one is met before the way round ends.
+    place = home
+    while places[place] is not None:
+        place = (place + 1) % len(places)
+    return place
+
+
+def laid(keys, seed, slots):
+    # Worked out anew from the keys alone, so neither their order of coming nor one that has gone leaves a trace.
+    places = [None] * slots
+    for home, mix, key in in_laying_order(keys, seed, slots):
+        places[next_free(places, home)] = key
+    return places
+
+
+def is_number_of_places(slots):
+    return slots >= 1 and slots <= MOST_SLOTS
+
+
 def refusal():
     return [-1, 0]
 
@@ -58,7 +95,7 @@ class Table:
         self.kept = {}
 
     def init(self, seed, slots):
-        if slots < 1 or slots > MOST_SLOTS:
+        if not is_number_of_places(slots):
             return refusal()
         self.seed = seed
         self.slots = slots
@@ -82,6 +119,31 @@ class Table:
     def get(self, key):
         if key in self.kept:
             return [1, self.kept[key]]
+        return [0, 0]
+
+    def take(self, key):
+        if key in self.kept:
+            return [1, self.kept.pop(key)]
+        return [0, 0]
+
+    def place(self, key):
+        if key in self.kept:
+            return [laid(self.kept, self.seed, self.slots).index(key), 0]
+        return refusal()
+
+    def walk(self, place):
+        # A place below 0 would be counted from the list's end.
+        if place < 0 or place >= self.slots:
+            return refusal()
+        key = laid(self.kept, self.seed, self.slots)[place]
+        if key is None:
+            return refusal()
+        return [len(key), self.kept[key]] + list(key)
+
+    def move(self, slots):
+        if not is_number_of_places(slots) or slots < len(self.kept):
+            return refusal()
+        self.slots = slots
         return [0, 0]
 
 
@@ -117,7 +179,11 @@ def answer_about_key(table, call, reader):
         return table.mix(key)
     if call == PUT:
         return table.put(key, value)
-    return table.get(key)
+    if call == GET:
+        return table.get(key)
+    if call == TAKE:
+        return table.take(key)
+    return table.place(key)
 
 
 def answer(table, reader):
@@ -126,8 +192,12 @@ def answer(table, reader):
         seed = reader.number()
         slots = reader.number()
         return table.init(seed, slots)
-    if call in (MIX, PUT, GET):
+    if call in (MIX, PUT, GET, TAKE, PLACE):
         return answer_about_key(table, call, reader)
+    if call == WALK:
+        return table.walk(reader.number())
+    if call == MOVE:
+        return table.move(reader.number())
     raise UnknownCall(call)
 
 

@@ -1,8 +1,6 @@
 import unittest
 
-from tests.helper import LEAST_NUMBER, MOST_NUMBER, MOST_WORD, REFUSED, AnswersCase, ask, init, mix, mix_with_n
-
-SEEDS = (0, 1, MOST_WORD)
+from tests.helper import SEEDS, AnswersCase, ask, init, mix, other_mix
 
 # A row: how many bytes the key has, then its mix with each of SEEDS.
 OF_MANY_BYTES = (
@@ -59,35 +57,6 @@ def many_bytes(n):
     return [(i * 89 + 201) % 256 for i in range(n)]
 
 
-# From here to other_mix: the mix by another way than the program's, with 32 bits at a time,
-# numbers cut by their remainders and the key filled up with 0 beforehand.
-def other_fold(a, b):
-    part = 2 ** 32
-    low = (a % part) * (b % part)
-    crossed = (a // part) * (b % part) + low // part
-    crossed_back = (a % part) * (b // part) + crossed % part
-    upper = (a // part) * (b // part) + crossed // part + crossed_back // part
-    lower = (crossed_back % part) * part + low % part
-    return lower ^ upper
-
-
-def other_rotated(word):
-    bits = format(word, "064b")
-    return int(bits[23:] + bits[:23], 2)
-
-
-def other_mix(seed, key):
-    whole, rest = divmod(len(key), 16)
-    filled = bytes(key) + bytes(-len(key) % 16)
-    h = seed ^ (len(key) * 0x9E3779B97F4A7C15 % 2 ** 64)
-    for block in range(whole + (rest > 0)):
-        a = int.from_bytes(filled[16 * block:16 * block + 8], "little")
-        b = int.from_bytes(filled[16 * block + 8:16 * block + 16], "little")
-        mask = 0xD6E8FEB86659FD93 if block < whole else 0xA0761D6478BD642F
-        h = other_fold(a ^ mask, b ^ h)
-    return other_fold(other_rotated(h) ^ 0x9E3779B97F4A7C15, 0xE7037ED1A0B428DB)
-
-
 class MixAnswers(AnswersCase):
     def check(self, key, seed, expected):
         with self.subTest(key=key, seed=seed):
@@ -135,14 +104,6 @@ class MixAnswers(AnswersCase):
     def test_number_of_places_does_not_count(self):
         for slots in (1, 64, 128):
             self.assertEqual(ask(init(1, slots), mix([]))[1], [0, 7034938611453561589])
-
-
-class MixRefuses(AnswersCase):
-    def test_n_out_of_range(self):
-        for n in (-1, 256, LEAST_NUMBER, MOST_NUMBER):
-            with self.subTest(n=n):
-                found = ask(init(1, 1), mix_with_n(n), mix([]))
-                self.assertEqual(found[1:], [REFUSED, [0, 7034938611453561589]])
 
 
 if __name__ == "__main__":

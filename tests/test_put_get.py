@@ -1,10 +1,6 @@
 import unittest
 
-from tests.helper import (
-    DONE, LEAST_NUMBER, MOST_NUMBER, MOST_WORD, NEWLY_KEPT, NOT_KEPT, REFUSED, AnswersCase, ask, get, get_with_n, init,
-    mix, put, put_with_n)
-
-WRONG_N = (-1, 256, LEAST_NUMBER, MOST_NUMBER)
+from tests.helper import DONE, MOST_WORD, NEWLY_KEPT, NOT_KEPT, REFUSED, AnswersCase, ask, get, init, mix, put, puts
 
 
 class Put(AnswersCase):
@@ -42,9 +38,8 @@ class PutInFullTable(AnswersCase):
         for slots in (1, 2, 17, 128):
             with self.subTest(slots=slots):
                 keys = [[i, 255 - i] for i in range(slots)]
-                puts = [put(key, 1000 + key[0]) for key in keys]
                 gets = [get(key) for key in keys]
-                found = ask(init(3, slots), *puts, put([9], 5), get([9]), *gets)
+                found = ask(init(3, slots), *puts(keys), put([9], 5), get([9]), *gets)
                 self.assertEqual(found[1:slots + 1], [NEWLY_KEPT] * slots)
                 self.assertEqual(found[slots + 1:slots + 3], [REFUSED, NOT_KEPT])
                 self.assertEqual(found[slots + 3:], [[1, 1000 + i] for i in range(slots)])
@@ -53,9 +48,8 @@ class PutInFullTable(AnswersCase):
         for slots in (1, 2, 17, 128):
             with self.subTest(slots=slots):
                 keys = [[i, 255 - i] for i in range(slots)]
-                puts = [put(key, 1000 + key[0]) for key in keys]
                 again = [put(key, 2000 + key[0]) for key in keys]
-                found = ask(init(3, slots), *puts, put([9], 5), *again, put([9], 5), get(keys[-1]))
+                found = ask(init(3, slots), *puts(keys), put([9], 5), *again, put([9], 5), get(keys[-1]))
                 self.assertEqual(found[slots + 1:], (
                     [REFUSED] + [[0, 1000 + i] for i in range(slots)] + [REFUSED, [1, 2000 + slots - 1]]))
 
@@ -66,10 +60,9 @@ class PutInFullTable(AnswersCase):
 
 class WhichKeysAreOne(AnswersCase):
     def check_all_apart(self, keys):
-        puts = [put(key, 100 + i) for i, key in enumerate(keys)]
-        found = ask(init(8, len(keys)), *puts, *[get(key) for key in keys])
+        found = ask(init(8, len(keys)), *puts(keys), *[get(key) for key in keys])
         self.assertEqual(found[1:len(keys) + 1], [NEWLY_KEPT] * len(keys))
-        self.assertEqual(found[len(keys) + 1:], [[1, 100 + i] for i in range(len(keys))])
+        self.assertEqual(found[len(keys) + 1:], [[1, 1000 + i] for i in range(len(keys))])
 
     def test_key_of_no_bytes(self):
         found = ask(init(1, 4), get([]), put([], 5), get([]), put([], 6), get([]), get([0]))
@@ -118,26 +111,6 @@ class Get(AnswersCase):
         key = list(range(255))
         found = ask(init(1, 1), put(key, 5), get(key), get(key[:254]))
         self.assertEqual(found[1:], [NEWLY_KEPT, [1, 5], NOT_KEPT])
-
-
-class NOutOfRange(AnswersCase):
-    def test_put_is_refused_and_keeps_nothing(self):
-        for n in WRONG_N:
-            with self.subTest(n=n):
-                found = ask(init(1, 1), put_with_n(n, 9), get([]), put([4], 5), get([4]))
-                self.assertEqual(found[1:], [REFUSED, NOT_KEPT, NEWLY_KEPT, [1, 5]])
-
-    def test_put_leaves_the_key_of_no_bytes(self):
-        for n in WRONG_N:
-            with self.subTest(n=n):
-                found = ask(init(1, 1), put([], 5), put_with_n(n, 9), get([]))
-                self.assertEqual(found[1:], [NEWLY_KEPT, REFUSED, [1, 5]])
-
-    def test_get_is_refused(self):
-        for n in WRONG_N:
-            with self.subTest(n=n):
-                found = ask(init(1, 2), get_with_n(n), put([], 5), get_with_n(n), get([]))
-                self.assertEqual(found[1:], [REFUSED, NEWLY_KEPT, REFUSED, [1, 5]])
 
 
 if __name__ == "__main__":
